@@ -26,9 +26,9 @@ func Symv(a float64, m, x view.View, b float64, y view.View) api.Errno {
 }
 
 // times makes y b times what it was, and a times the rows' sums with x added to it.
-func times(a float64, rows [][]float64, x []float64, b float64, y view.View) {
+func times(a float64, m [][]float64, x []float64, b float64, y view.View) {
 	put, was := y.Put, floats(y)
-	for i, row := range rows {
+	for i, row := range m {
 		put(i, float64(b*was[i])+float64(a*dot(row, x)))
 	}
 }
